@@ -1,0 +1,57 @@
+// Package usher: who may do what to which thing: see DOC.md.
+package usher
+
+import (
+	"errors"
+
+	"usher/api"
+	"usher/models"
+)
+
+// Print reads a model and writes it in order (P3 to P5).
+func Print(model string) (string, api.Errno, int) {
+	m, err := models.Read(model)
+	if number, place := told(err); number != api.OK {
+		return "", number, place
+	}
+	return m.String(), api.OK, 0
+}
+
+// told gives the number of an error and its place; what has no place of its own is told of the text's beginning.
+func told(err error) (api.Errno, int) {
+	var fault models.Fault
+	if !errors.As(err, &fault) {
+		return api.OK, 0
+	}
+	var placed models.Placed
+	if !errors.As(err, &placed) {
+		return api.Errno(fault), 0
+	}
+	return api.Errno(fault), placed.At()
+}
+
+// Usher is a model, and what was granted.
+type Usher struct{}
+
+// New makes an usher (P6).
+func New(model string) (*Usher, api.Errno) { return nil, api.OK }
+
+// Load gives another model (P6).
+func (u *Usher) Load(model string) api.Errno { return api.OK }
+
+// Write grants something (P7).
+func (u *Usher) Write(grant string) api.Errno { return api.OK }
+
+// Delete takes a grant back (P7).
+func (u *Usher) Delete(grant string) api.Errno { return api.OK }
+
+// Grants tells what is granted (P7).
+func (u *Usher) Grants() []string { return nil }
+
+// Check tells whether something stands in a relation to a thing (P9).
+func (u *Usher) Check(thing string, relation string, who string) (bool, api.Errno) {
+	return false, api.OK
+}
+
+// Who tells all that stand in a relation to a thing (P10).
+func (u *Usher) Who(thing string, relation string) ([]string, api.Errno) { return nil, api.OK }
