@@ -6,7 +6,7 @@ import (
 	"usher/api"
 )
 
-// Fault is what is wrong with a model.
+// Fault is what is wrong with a model, or with a tuple that is to be granted by it.
 type Fault api.Errno
 
 func (f Fault) Error() string {

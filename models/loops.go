@@ -39,11 +39,7 @@ func (m Model) hangs(found []spot, sought spot) bool {
 }
 
 func (m Model) needsAt(s spot) []spot {
-	t, err := m.find(s.kind)
-	if err != nil {
-		return nil
-	}
-	r, err := t.find(s.relation)
+	t, r, err := m.findRelation(s.kind, s.relation)
 	if err != nil {
 		return nil
 	}

@@ -33,6 +33,15 @@ func (t Type) find(name string) (Relation, error) {
 	return t.Relations[i], nil
 }
 
+func (m Model) findRelation(kind, name string) (Type, Relation, error) {
+	t, err := m.find(kind)
+	if err != nil {
+		return t, Relation{}, err
+	}
+	r, err := t.find(name)
+	return t, r, err
+}
+
 func (m Model) checkTwice() error {
 	var ahead Model
 	for _, t := range m.Types {

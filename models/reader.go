@@ -2,6 +2,7 @@ package models
 
 import (
 	"slices"
+	"strings"
 
 	"usher/api"
 )
@@ -11,6 +12,8 @@ func Read(text string) (Model, error) {
 	if len(text) > api.MaxText {
 		return Model{}, Fault(api.ErrLong)
 	}
+	// A model may be kept, and what was handed in may not.
+	text = strings.Clone(text)
 	r := reader{text: text, now: tokenFrom(text, 0)}
 	m, err := r.model()
 	if err != nil {

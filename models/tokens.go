@@ -1,5 +1,7 @@
 package models
 
+import "usher/words"
+
 // token is a word, or any other single byte that is no blank; the end of the text is a token without text.
 type token struct {
 	Place
@@ -18,22 +20,11 @@ func tokenSize(text string) int {
 	if text == "" {
 		return 0
 	}
-	size := 1
-	if !isLetter(text[0]) {
-		return size
-	}
-	for size < len(text) && (isLetter(text[size]) || isDigit(text[size])) {
-		size++
-	}
-	return size
+	return max(1, words.Size(text))
 }
 
 func (t token) isName() bool {
-	return t.text != "" && isLetter(t.text[0]) && t.text != "type"
+	return words.Size(t.text) > 0 && t.text != "type"
 }
 
 func isBlank(c byte) bool { return c == ' ' || c == '\t' || c == '\n' }
-
-func isLetter(c byte) bool { return 'a' <= c && c <= 'z' }
-
-func isDigit(c byte) bool { return '0' <= c && c <= '9' }

@@ -15,6 +15,7 @@ import (
 type maker struct {
 	*rand.Rand
 	kinds, relations []string
+	lists            int // how much more often than else a unit is a list
 }
 
 func (m *maker) pick(words ...string) string {
@@ -54,23 +55,28 @@ func (m *maker) chain(depth int) draft {
 }
 
 func (m *maker) unit(depth int) draft {
-	switch m.Intn(6) {
+	switch m.Intn(6 + m.lists) {
 	case 0:
 		tie := m.pick(m.relations...) + "." + m.pick(m.relations...)
 		return draft{tie, tie, 2}
-	case 1:
-		list := "[" + m.grant()
-		for m.Intn(2) == 0 {
-			list += ", " + m.grant()
-		}
-		return draft{strings.ReplaceAll(list, " ", "") + "]", list + "]", 2}
-	case 2, 3:
+	case 1, 2:
 		if depth < 4 {
 			return m.expression(depth + 1).bracketed()
 		}
+		fallthrough
+	case 3, 4:
+		name := m.pick(m.relations...)
+		return draft{name, name, 2}
 	}
-	name := m.pick(m.relations...)
-	return draft{name, name, 2}
+	return m.list()
+}
+
+func (m *maker) list() draft {
+	list := "[" + m.grant()
+	for m.Intn(2) == 0 {
+		list += ", " + m.grant()
+	}
+	return draft{strings.ReplaceAll(list, " ", "") + "]", list + "]", 2}
 }
 
 func (m *maker) grant() string {

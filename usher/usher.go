@@ -3,9 +3,11 @@ package usher
 
 import (
 	"errors"
+	"slices"
 
 	"usher/api"
 	"usher/models"
+	"usher/tuples"
 )
 
 // Print reads a model and writes it in order (P3 to P5).
@@ -31,22 +33,72 @@ func told(err error) (api.Errno, int) {
 }
 
 // Usher is a model, and what was granted.
-type Usher struct{}
+type Usher struct {
+	model   models.Model
+	granted []tuples.Tuple
+}
 
 // New makes an usher (P6).
-func New(model string) (*Usher, api.Errno) { return nil, api.OK }
+func New(model string) (*Usher, api.Errno) {
+	u := new(Usher)
+	if number := u.Load(model); number != api.OK {
+		return nil, number
+	}
+	return u, api.OK
+}
 
 // Load gives another model (P6).
-func (u *Usher) Load(model string) api.Errno { return api.OK }
+func (u *Usher) Load(model string) api.Errno {
+	m, err := models.Read(model)
+	if number, _ := told(err); number != api.OK {
+		return number
+	}
+	*u = Usher{model: m}
+	return api.OK
+}
 
 // Write grants something (P7).
-func (u *Usher) Write(grant string) api.Errno { return api.OK }
+func (u *Usher) Write(grant string) api.Errno {
+	t, ok := tuples.Read(grant)
+	if !ok {
+		return api.ErrText
+	}
+	if number, _ := told(u.model.Lets(t)); number != api.OK {
+		return number
+	}
+	if slices.Contains(u.granted, t) {
+		return api.ErrTwice
+	}
+	if len(u.granted) == api.MaxGrants {
+		return api.ErrFull
+	}
+	u.granted = append(u.granted, t)
+	return api.OK
+}
 
 // Delete takes a grant back (P7).
-func (u *Usher) Delete(grant string) api.Errno { return api.OK }
+func (u *Usher) Delete(grant string) api.Errno {
+	t, ok := tuples.Read(grant)
+	if !ok {
+		return api.ErrText
+	}
+	i := slices.Index(u.granted, t)
+	if i < 0 {
+		return api.ErrNone
+	}
+	u.granted = slices.Delete(u.granted, i, i+1)
+	return api.OK
+}
 
 // Grants tells what is granted (P7).
-func (u *Usher) Grants() []string { return nil }
+func (u *Usher) Grants() []string {
+	var all []string
+	for _, t := range u.granted {
+		all = append(all, t.String())
+	}
+	slices.Sort(all)
+	return all
+}
 
 // Check tells whether something stands in a relation to a thing (P9).
 func (u *Usher) Check(thing string, relation string, who string) (bool, api.Errno) {
