@@ -9,7 +9,7 @@ import (
 
 // Lets gives what keeps the tuple from being granted by this model, if anything does.
 func (m Model) Lets(t tuples.Tuple) error {
-	_, r, err := m.findRelation(t.Type, t.Relation)
+	_, r, err := m.FindRelation(t.Type, t.Relation)
 	if err != nil {
 		return err
 	}

@@ -15,7 +15,7 @@ func (m Model) checkLoops(t Type, r Relation) error {
 	for _, p := range parts(r.Body) {
 		switch x := p.(type) {
 		case Less:
-			if m.hangs(m.needs(t, r, x.Right), spot{t.Text, r.Text}) {
+			if slices.Contains(m.reached(m.needs(t, r, x.Right)), spot{t.Text, r.Text}) {
 				return x.wrap(Fault(api.ErrLoop))
 			}
 		}
@@ -23,23 +23,22 @@ func (m Model) checkLoops(t Type, r Relation) error {
 	return nil
 }
 
-// hangs tells whether the sought relation is among these, or one of these hangs on it.
-func (m Model) hangs(found []spot, sought spot) bool {
-	for i := 0; i < len(found); i++ {
-		if found[i] == sought {
-			return true
-		}
-		for _, next := range m.needsAt(found[i]) {
-			if !slices.Contains(found, next) {
-				found = append(found, next)
-			}
+// reached lists these relations and all that they hang on, each once.
+func (m Model) reached(from []spot) []spot {
+	var found []spot
+	for len(from) > 0 {
+		next := from[0]
+		from = from[1:]
+		if !slices.Contains(found, next) {
+			found = append(found, next)
+			from = append(from, m.needsAt(next)...)
 		}
 	}
-	return false
+	return found
 }
 
 func (m Model) needsAt(s spot) []spot {
-	t, r, err := m.findRelation(s.kind, s.relation)
+	t, r, err := m.FindRelation(s.kind, s.relation)
 	if err != nil {
 		return nil
 	}

@@ -2,6 +2,7 @@ package models
 
 import (
 	"errors"
+	"strings"
 	"testing"
 
 	"usher/api"
@@ -55,6 +56,34 @@ func TestPartsStandInOrder(t *testing.T) {
 	for i, p := range parts(body) {
 		if i >= len(want) || p.At() != want[i] {
 			t.Errorf("part %d is a %T at %d, want %v", i, p, p.At(), want)
+		}
+	}
+}
+
+// P8: what a relation hangs on goes ahead of it; those that hang on each other go together.
+func TestSteps(t *testing.T) {
+	for text, want := range map[string]string{
+		"":                                   "",
+		"type a {}":                          "",
+		"type a { b: [a]; c: b; d: c | b; }": "a.b/a.c/a.d",
+		"type a { d: c | b; c: b; b: [a]; }": "a.b/a.c/a.d",
+		"type a { b: [a#c] - d; c: b; d: [a#d]; e: e; }":                      "a.d a.e//a.b a.c",
+		"type a { b: [b]; c: b.c - d; d: b.d; } type b { c: [a#c]; d: [b]; }": "a.b b.d/a.d//a.c b.c",
+	} {
+		m, err := Read(text)
+		if err != nil {
+			t.Fatalf("%q: %v", text, err)
+		}
+		var steps []string
+		for _, step := range m.Steps() {
+			var names []string
+			for _, r := range step {
+				names = append(names, r.Kind+"."+r.Text)
+			}
+			steps = append(steps, strings.Join(names, " "))
+		}
+		if got := strings.Join(steps, "/"); got != want {
+			t.Errorf("%q: %q, want %q", text, got, want)
 		}
 	}
 }

@@ -1,6 +1,7 @@
 package models
 
 import (
+	"iter"
 	"slices"
 
 	"usher/api"
@@ -17,7 +18,8 @@ func (m Model) check() error {
 	return m.eachRelation(m.checkLoops)
 }
 
-func (m Model) find(name string) (Type, error) {
+// FindType gives the type of this name, or an error if there is none.
+func (m Model) FindType(name string) (Type, error) {
 	i := slices.IndexFunc(m.Types, func(t Type) bool { return t.Text == name })
 	if i < 0 {
 		return Type{}, Fault(api.ErrName)
@@ -33,8 +35,9 @@ func (t Type) find(name string) (Relation, error) {
 	return t.Relations[i], nil
 }
 
-func (m Model) findRelation(kind, name string) (Type, Relation, error) {
-	t, err := m.find(kind)
+// FindRelation gives a relation and the type that has it, or an error if one of them is not there.
+func (m Model) FindRelation(kind, name string) (Type, Relation, error) {
+	t, err := m.FindType(kind)
 	if err != nil {
 		return t, Relation{}, err
 	}
@@ -45,7 +48,7 @@ func (m Model) findRelation(kind, name string) (Type, Relation, error) {
 func (m Model) checkTwice() error {
 	var ahead Model
 	for _, t := range m.Types {
-		if _, err := ahead.find(t.Text); err == nil {
+		if _, err := ahead.FindType(t.Text); err == nil {
 			return t.wrap(Fault(api.ErrTwice))
 		}
 		if err := t.checkTwice(); err != nil {
@@ -67,13 +70,24 @@ func (t Type) checkTwice() error {
 	return nil
 }
 
-// eachRelation makes a check of every relation, in the text's order, up to the first that fails.
-func (m Model) eachRelation(check func(Type, Relation) error) error {
-	for _, t := range m.Types {
-		for _, r := range t.Relations {
-			if err := check(t, r); err != nil {
-				return err
+// relations goes through all relations, each with its type, in the text's order.
+func (m Model) relations() iter.Seq2[Type, Relation] {
+	return func(yield func(Type, Relation) bool) {
+		for _, t := range m.Types {
+			for _, r := range t.Relations {
+				if !yield(t, r) {
+					return
+				}
 			}
+		}
+	}
+}
+
+// eachRelation makes a check of every relation, up to the first that fails.
+func (m Model) eachRelation(check func(Type, Relation) error) error {
+	for t, r := range m.relations() {
+		if err := check(t, r); err != nil {
+			return err
 		}
 	}
 	return nil
@@ -100,7 +114,7 @@ func (m Model) checkNames(t Type, r Relation) error {
 
 func (m Model) checkList(l List) error {
 	for _, g := range l.Grants {
-		t, err := m.find(g.Type.Text)
+		t, err := m.FindType(g.Type.Text)
 		if err != nil {
 			return g.Type.wrap(err)
 		}
@@ -136,7 +150,7 @@ func (m Model) tied(t Type, tie Tie) []Type {
 			continue
 		}
 		// A type that is not there has no relation either; its own name tells of it.
-		there, _ := m.find(g.Type.Text)
+		there, _ := m.FindType(g.Type.Text)
 		if _, err := there.find(tie.To.Text); err == nil {
 			all = append(all, there)
 		}

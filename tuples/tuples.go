@@ -32,15 +32,15 @@ type Tuple struct {
 	Subject  Subject
 }
 
-// readThing reads `type:word`; false, if the text is none, or has a word above the bound.
-func readThing(text string) (Thing, bool) {
+// ReadThing reads `type:word`; false, if the text is none, or has a word above the bound.
+func ReadThing(text string) (Thing, bool) {
 	kind, word, _ := strings.Cut(text, ":")
 	return Thing{kind, word}, words.Fits(kind) && words.Fits(word)
 }
 
 func readSubject(text string) (Subject, bool) {
 	text, relation, related := strings.Cut(text, "#")
-	t, ok := readThing(text)
+	t, ok := ReadThing(text)
 	s := Subject{t, relation}
 	if related {
 		return s, ok && words.Fits(relation)
@@ -56,7 +56,7 @@ func Read(text string) (Tuple, bool) {
 	// A tuple may be kept, and what was handed in may not.
 	head, tail, _ := strings.Cut(strings.Clone(text), "@")
 	head, relation, _ := strings.Cut(head, "#")
-	thing, isThing := readThing(head)
+	thing, isThing := ReadThing(head)
 	subject, isSubject := readSubject(tail)
 	return Tuple{thing, relation, subject}, isThing && isSubject && words.Fits(relation)
 }

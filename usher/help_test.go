@@ -1,6 +1,7 @@
 package usher_test
 
 import (
+	"slices"
 	"testing"
 
 	"usher/api"
@@ -52,5 +53,21 @@ func wantWritten(t *testing.T, text, want string) {
 	t.Helper()
 	if s, e, at := usher.Print(text); s != want || e != api.OK || at != 0 {
 		t.Errorf("Print(%q) = %q, %d, %d, want %q", text, s, e, at, want)
+	}
+}
+
+func wantChecks(t *testing.T, u *usher.Usher, thing, relation string, want bool, whos ...string) {
+	t.Helper()
+	for _, who := range whos {
+		if in, e := u.Check(thing, relation, who); in != want || e != api.OK {
+			t.Errorf("Check(%q, %q, %q) = %v, %d, want %v", thing, relation, who, in, e, want)
+		}
+	}
+}
+
+func wantWho(t *testing.T, u *usher.Usher, thing, relation string, want ...string) {
+	t.Helper()
+	if list, e := u.Who(thing, relation); !slices.Equal(list, want) || e != api.OK {
+		t.Errorf("Who(%q, %q) = %q, %d, want %q", thing, relation, list, e, want)
 	}
 }

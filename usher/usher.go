@@ -6,8 +6,10 @@ import (
 	"slices"
 
 	"usher/api"
+	"usher/lines"
 	"usher/models"
 	"usher/tuples"
+	"usher/words"
 )
 
 // Print reads a model and writes it in order (P3 to P5).
@@ -35,6 +37,7 @@ func told(err error) (api.Errno, int) {
 // Usher is a model, and what was granted.
 type Usher struct {
 	model   models.Model
+	lines   lines.Lines
 	granted []tuples.Tuple
 }
 
@@ -53,7 +56,7 @@ func (u *Usher) Load(model string) api.Errno {
 	if number, _ := told(err); number != api.OK {
 		return number
 	}
-	*u = Usher{model: m}
+	*u = Usher{model: m, lines: lines.Of(m)}
 	return api.OK
 }
 
@@ -102,8 +105,55 @@ func (u *Usher) Grants() []string {
 
 // Check tells whether something stands in a relation to a thing (P9).
 func (u *Usher) Check(thing string, relation string, who string) (bool, api.Errno) {
-	return false, api.OK
+	one, ok := tuples.ReadThing(who)
+	if !ok {
+		return false, api.ErrText
+	}
+	asked, number := u.asked(thing, relation)
+	if number != api.OK {
+		return false, number
+	}
+	_, err := u.model.FindType(one.Type)
+	if number, _ := told(err); number != api.OK {
+		return false, number
+	}
+	those := u.lines.Those([]tuples.Thing{one}, asked, u.granted)
+	return len(those) > 0, api.OK
 }
 
 // Who tells all that stand in a relation to a thing (P10).
-func (u *Usher) Who(thing string, relation string) ([]string, api.Errno) { return nil, api.OK }
+func (u *Usher) Who(thing string, relation string) ([]string, api.Errno) {
+	asked, number := u.asked(thing, relation)
+	if number != api.OK {
+		return nil, number
+	}
+	var all []string
+	for _, t := range u.lines.Those(u.crowd(), asked, u.granted) {
+		all = append(all, t.String())
+	}
+	slices.Sort(all)
+	return slices.Compact(all), api.OK
+}
+
+// asked reads what both questions ask for.
+func (u *Usher) asked(thing string, relation string) (tuples.Subject, api.Errno) {
+	t, ok := tuples.ReadThing(thing)
+	if !ok || !words.Fits(relation) {
+		return tuples.Subject{}, api.ErrText
+	}
+	_, _, err := u.model.FindRelation(t.Type, relation)
+	number, _ := told(err)
+	return tuples.Subject{Thing: t, Relation: relation}, number
+}
+
+// crowd lists whom Who may tell of, some of them more than once: for those that stand in no tuple, Everything of each type.
+func (u *Usher) crowd() []tuples.Thing {
+	var all []tuples.Thing
+	for _, t := range u.model.Types {
+		all = append(all, tuples.Thing{Type: t.Text, Word: tuples.Everything})
+	}
+	for _, t := range u.granted {
+		all = append(all, t.Thing, t.Subject.Thing)
+	}
+	return all
+}
